@@ -104,6 +104,16 @@ func readerOf(t *testing.T, text string) *bits.Reader {
 	return r
 }
 
+// spent answers a reader whose bits were all taken.
+func spent(t *testing.T) *bits.Reader {
+	t.Helper()
+	r := bits.NewReader([]byte{5})
+	if _, e := r.Take(8); e != api.OK || r.Left() != 0 {
+		t.Fatal("no such reader")
+	}
+	return r
+}
+
 // P201: shorter ones first, of one length by symbols; symbols without have 0.
 func TestCodes(t *testing.T) {
 	wantCodes(t, []int{2, 1, 3, 3}, 0b10, 0b0, 0b110, 0b111)
@@ -264,10 +274,14 @@ func TestNextAtTheEnd(t *testing.T) {
 	wantNext(t, d, r, 15, api.OK, 16)
 	wantNext(t, d, r, 14, api.OK, 1)
 	wantNext(t, d, r, 0, api.OK, 0)
-	wantNext(t, d, bits.NewReader(nil), 0, api.ErrEnd, 0)
+	wantNext(t, d, r, 0, api.ErrEnd, 0)
+	for _, l := range [][]int{chain(huff.MaxBits), {2, 1, 3, 3}, {1, 1}, {1}, {0, 1}, with(repeat(0, huff.MaxSyms), huff.MaxSyms-1, 1)} {
+		wantNext(t, decoder(t, l...), bits.NewReader(nil), 0, api.ErrEnd, 0)
+		wantNext(t, decoder(t, l...), spent(t), 0, api.ErrEnd, 0)
+	}
 }
 
-// P202: bits that begin no code are told as soon as they are there, and nothing was taken.
+// P202: bits that begin no code are told as soon as they are there, and nothing was taken. Where there is no code none begins one, not even no bits.
 func TestNextOfNoCode(t *testing.T) {
 	for _, d := range []*huff.Decoder{decoder(t, 1), decoder(t, 1, 0, 0), decoder(t, with(repeat(0, huff.MaxSyms), 0, 1)...)} {
 		r := readerOf(t, "0"+"1")
@@ -284,11 +298,13 @@ func TestNextOfNoCode(t *testing.T) {
 	wantNext(t, d, r, 2, api.OK, 3)
 	wantNext(t, d, r, 2, api.OK, 2)
 	wantNext(t, d, r, 0, api.ErrCode, 2)
-	for _, d := range []*huff.Decoder{decoder(t), decoder(t, 0), decoder(t, repeat(0, huff.MaxSyms)...)} {
+	for _, d := range []*huff.Decoder{decoder(t), decoder(t, 0), decoder(t, 0, 0, 0), decoder(t, repeat(0, huff.MaxSyms)...)} {
 		wantNext(t, d, readerOf(t, "0"), 0, api.ErrCode, 1)
 		wantNext(t, d, readerOf(t, "1"), 0, api.ErrCode, 1)
 		wantNext(t, d, readerOf(t, "01101001011010010"), 0, api.ErrCode, 17)
-		wantNext(t, d, bits.NewReader(nil), 0, api.ErrEnd, 0)
+		wantNext(t, d, bits.NewReader(nil), 0, api.ErrCode, 0)
+		wantNext(t, d, bits.NewReader([]byte{}), 0, api.ErrCode, 0)
+		wantNext(t, d, spent(t), 0, api.ErrCode, 0)
 	}
 }
 
