@@ -42,21 +42,21 @@ func TestRight(t *testing.T) {
 			t.Errorf("Right(%v): false", x)
 		}
 	}
-	for _, x := range []api.Dec{d(1, -19), d(1, 19), d(0, -19), d(0, 19), d(10, 19), d(1, math.MaxInt), d(1, math.MinInt), d(0, math.MaxInt), d(0, math.MinInt), d(10, 17), d(10, 0), d(10, -18), d(-10, 0), d(-10, 17), d(100, 0), d(1e18, 17), d(9e18, 0), d(0, 1), d(0, -1), d(0, 17), d(0, -18), d(10, -19)} {
+	for _, x := range []api.Dec{d(1, -19), d(1, 19), d(0, -19), d(0, 19), d(10, 19), d(1, math.MaxInt), d(1, math.MinInt), d(0, math.MaxInt), d(0, math.MinInt), d(10, 17), d(10, 0), d(10, -18), d(-10, 0), d(-10, 17), d(100, 0), d(1e18, 17), d(9e18, 0), d(0, 1), d(0, -1), d(0, 17), d(0, 18), d(0, -18), d(10, -19)} {
 		if dec.Right(x) {
 			t.Errorf("Right(%v): true", x)
 		}
 	}
 }
 
-// TestRightByWords asks the words' three ways to be canonical one by one. By the second of them 0 is right at MaxExp too.
+// TestRightByWords asks the words' three ways to be canonical one by one: the second of them is for other numbers than 0, of which 0, 0 alone is right.
 func TestRightByWords(t *testing.T) {
 	for _, c := range edgeC {
 		for e := -20; e <= 20; e++ {
 			want := false
 			if within(e) {
 				undivided := new(big.Int).Rem(big.NewInt(c), big.NewInt(10)).Sign() != 0
-				want = undivided || e == api.MaxExp || c == 0 && e == 0
+				want = undivided || c != 0 && e == api.MaxExp || c == 0 && e == 0
 			}
 			if dec.Right(d(c, e)) != want {
 				t.Errorf("Right(%d, %d): %v", c, e, !want)
@@ -144,12 +144,9 @@ func TestMakeByModel(t *testing.T) {
 	}
 }
 
-// TestOneRightDec holds Make against a look at every exponent: of each number but 0 there is one right Dec, or none.
+// TestOneRightDec holds Make against a look at every exponent: of each number there is one right Dec, or none.
 func TestOneRightDec(t *testing.T) {
 	for _, c := range edgeC {
-		if c == 0 {
-			continue
-		}
 		for e := -38; e <= 38; e++ {
 			all := tellAll(new(big.Rat).Mul(new(big.Rat).SetInt64(c), ten(e)))
 			switch made := got(dec.Make(c, e)); {

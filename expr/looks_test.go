@@ -8,6 +8,7 @@ import (
 	"testing"
 
 	"quire/api"
+	"quire/dec"
 	"quire/expr"
 )
 
@@ -224,6 +225,22 @@ func TestParseOfPrint(t *testing.T) {
 		s, e := expr.Print(x)
 		is(t, e, api.OK, "Print", x)
 		reads(t, s, x)
+	}
+}
+
+// TestParseOfPrintOfNumbers asks it at every exponent: one of a number's Decs alone is right, of 0 too.
+func TestParseOfPrintOfNumbers(t *testing.T) {
+	for _, c := range []int64{0, 1, 2, 10, 70, 100, 1e18, math.MaxInt64} {
+		for e := -20; e <= 20; e++ {
+			for _, x := range []api.Expr{num(c, e), neg(num(c, e)), pct(num(c, e)), bin(num(1, 0), "+", num(c, e)), call("SUM", num(c, e), num(1, 0))} {
+				s, fault := expr.Print(x)
+				is(t, expr.Right(x), fault, "Right", c, e)
+				is(t, fault == api.OK, dec.Right(num(c, e).V.N), "Print", c, e)
+				if fault == api.OK {
+					reads(t, s, x)
+				}
+			}
+		}
 	}
 }
 

@@ -103,7 +103,7 @@ func TestRightNumbers(t *testing.T) {
 	}
 	for _, x := range []api.Expr{
 		num(-1, 0), num(-5, -3), num(math.MinInt64, 0), num(math.MinInt64, 18), num(-10, 18), // below 0
-		num(10, 0), num(100, -2), num(0, 1), num(0, -1), num(1, 19), num(1, -19), num(1, math.MaxInt), num(1, math.MinInt), num(0, 19), // not right
+		num(10, 0), num(100, -2), num(0, 1), num(0, -1), num(0, 17), num(0, 18), num(0, -18), num(1, 19), num(1, -19), num(1, math.MaxInt), num(1, math.MinInt), num(0, 19), // not right
 	} {
 		wrong(t, x, api.ErrArg)
 		wrong(t, neg(x), api.ErrArg)
